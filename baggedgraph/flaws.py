@@ -1,4 +1,4 @@
-"""Call 6: whether the bags are right, and if not, the first thing that is wrong with them.
+"""The calls 6 and 7, about the bags themselves: the first thing that is wrong with them, and their width.
 
 Each kind of flaw has a function that gives back its first flaw, as it is told, or [].
 """
@@ -14,6 +14,18 @@ def first_flaw(graph):
     if flaw == []:
         return [0]
     return flaw
+
+
+def are_right(graph):
+    """Whether the bags are right."""
+    return first_flaw(graph) == [0]
+
+
+def width(graph):
+    """Call 7: the size of the largest bag, less 1; the bags need not be right."""
+    if graph.bags == []:
+        return [-1]
+    return [max([len(bag) for bag in graph.bags]) - 1]
 
 
 def missing_node(graph):

@@ -1,7 +1,9 @@
 """The calls on one object, read from one list and answered in one list."""
 
 from baggedgraph.changes import add_bag, drop_bags, set_edge, set_mask, set_weight, start_graph
-from baggedgraph.flaws import first_flaw
+from baggedgraph.colourings import count_colourings, first_colouring, share_colourings
+from baggedgraph.flaws import first_flaw, width
+from baggedgraph.independence import count_sets, heaviest_set
 from baggedgraph.state import Holder
 
 INIT = 0
@@ -11,6 +13,11 @@ ALLOW = 3
 BAG = 4
 UNBAG = 5
 CHECK = 6
+WIDTH = 7
+COLOURINGS = 8
+COLOURING = 9
+SHARE = 10
+SETS = 11
 
 # For each call, how many numbers always stand behind its own number; of bag, p and its row's length.
 NUMBERS_BEHIND = (1, 3, 2, 2, 2, 0, 0, 0, 1, 1, 2, 0, 0)
@@ -59,6 +66,21 @@ def answer_with_graph(graph, call, numbers):
         return add_bag(graph, numbers[0], numbers[2:])
     if call == UNBAG:
         return drop_bags(graph)
+    return answer_question(graph, call, numbers)
+
+
+def answer_question(graph, call, numbers):
+    """What a call that only asks answers."""
     if call == CHECK:
         return first_flaw(graph)
-    raise NotImplementedError(f"call {call} has no answer yet")
+    if call == WIDTH:
+        return width(graph)
+    if call == COLOURINGS:
+        return count_colourings(graph, numbers[0])
+    if call == COLOURING:
+        return first_colouring(graph, numbers[0])
+    if call == SHARE:
+        return share_colourings(graph, numbers[0], numbers[1])
+    if call == SETS:
+        return count_sets(graph)
+    return heaviest_set(graph)

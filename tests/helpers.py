@@ -33,6 +33,38 @@ def check():
     return [6]
 
 
+def width():
+    return [7]
+
+
+def colourings(q):
+    return [8, q]
+
+
+def colouring(q):
+    return [9, q]
+
+
+def share(q, a):
+    return [10, q, a]
+
+
+def sets():
+    return [11]
+
+
+def independent():
+    return [12]
+
+
+def questions(nodes, counts_of_colours=(1, 2, 3, 4)):
+    """All calls that ask of a graph with right bags: one each, but colourings with each q, share of each node."""
+    calls = [sets(), independent()]
+    for q in counts_of_colours:
+        calls += [colourings(q), colouring(q)] + [share(q, a) for a in range(nodes)]
+    return calls
+
+
 def join(calls):
     """The calls one behind another, as the one list that is handed in."""
     return [number for call in calls for number in call]

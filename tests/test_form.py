@@ -30,6 +30,10 @@ WORDS_RULED_OUT = (r"\b(type|typing|typing_extensions|enum|Enum|IntEnum|StrEnum|
                    r"|dataclass|overload|contextmanager")
 
 
+NOT_VALUES_OF_AN_OBJECT = ("items keys values pop update append clear extend insert remove reverse setdefault sort "
+                           "args encode format").split()
+
+
 def trees():
     return [(path, ast.parse(path.read_text(encoding="utf-8"))) for path in FILES]
 
@@ -95,6 +99,36 @@ class Form(unittest.TestCase):
             for node in ast.walk(tree):
                 if isinstance(node, ast.Name) and node.id in vars(builtins):
                     self.assertIn(node.id, BUILTINS_ALLOWED, path)
+
+    def test_nothing_is_called_like_an_import_or_a_class_of_its_file(self):
+        for path, tree in trees():
+            imported = [name.name for node in tree.body if isinstance(node, ast.ImportFrom) for name in node.names]
+            own = bound_names(tree)
+            for name in imported:
+                self.assertNotIn(name, own, path)
+            for node in tree.body:
+                if isinstance(node, ast.ClassDef):
+                    self.assertEqual(own.count(node.name), 1, path)
+
+    def test_names_of_an_objects_values(self):
+        for path, tree in trees():
+            for node in ast.walk(tree):
+                if isinstance(node, ast.Attribute) and isinstance(node.ctx, ast.Store):
+                    self.assertNotIn(node.attr, NOT_VALUES_OF_AN_OBJECT, path)
+
+    def test_powers_are_written_out(self):
+        for path, tree in trees():
+            for node in ast.walk(tree):
+                if isinstance(node, ast.BinOp) and isinstance(node.op, ast.Pow):
+                    self.assertIsInstance(node.right, ast.Constant, path)
+
+    def test_no_two_files_draw_from_one_another(self):
+        draws = {path.stem: {node.module.split(".")[-1] for node in ast.walk(tree) if isinstance(node, ast.ImportFrom)}
+                 for path, tree in trees()}
+        while draws:
+            ends = [name for name, drawn in draws.items() if not drawn & set(draws)]
+            self.assertTrue(ends, draws)
+            draws = {name: drawn for name, drawn in draws.items() if name not in ends}
 
     def test_methods_called(self):
         for path, tree in trees():
